@@ -1,5 +1,13 @@
 """Calls taken apart from the one list in which they're handed in."""
 
+CALL_BOOK = 0
+CALL_PRINTED = 1
+CALL_SIZE = 2
+CALL_NAME = 3
+CALL_FIND = 4
+CALL_OVER = 5
+CALL_WAY = 6
+
 # for each call, by its number: how many whole numbers it has, and how many rows behind them
 SHAPES = ((0, 1), (0, 0), (0, 0), (1, 0), (0, 1), (2, 0), (2, 0), (1, 0))
 

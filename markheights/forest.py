@@ -28,10 +28,24 @@ class Forest:
     def rise(self, lower, upper):
         return self.levels[upper] - self.levels[lower]
 
+    def members_with(self, mark):
+        return self.members[self.group_of[mark]]
+
+    def count_together(self, mark):
+        return len(self.members_with(mark))
+
+    # The number stands behind the level, so that of several at one level the least is taken.
+    def lowest(self, mark):
+        return min([(self.levels[each], each) for each in self.members_with(mark)])[1]
+
+    # The level's sign is turned, so that here too the least number is taken.
+    def highest(self, mark):
+        return min([(-self.levels[each], each) for each in self.members_with(mark)])[1]
+
     def add_line(self, number, first, second, height):
         off = height - self.rise(first, second)
         # moving the smaller group keeps long books quick
-        if len(self.members[self.group_of[first]]) < len(self.members[self.group_of[second]]):
+        if self.count_together(first) < self.count_together(second):
             self.move_group(first, second, -off)
         else:
             self.move_group(second, first, off)

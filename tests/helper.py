@@ -18,6 +18,24 @@ def name(mark):
     return [3, mark]
 
 
+def find(row):
+    """The call find, of a text or of bytes."""
+    signs = list(row.encode("latin-1") if isinstance(row, str) else row)
+    return [4, len(signs)] + signs
+
+
+def over(lower, upper):
+    return [5, lower, upper]
+
+
+def way(start, goal):
+    return [6, start, goal]
+
+
+def ends(mark):
+    return [7, mark]
+
+
 def ask(*calls):
     """The calls' answers, a list for each."""
     told = answers([number for call in calls for number in call])
@@ -42,6 +60,13 @@ def printed(text):
     return bytes(answer[2:]).decode("latin-1")
 
 
+def ask_right(text, *calls):
+    """What the calls answer on the book of this text, which is right."""
+    found = ask(book(text), *calls)
+    assert found[0] == [0], found[0]
+    return found[1:]
+
+
 def marks(*names):
     return "".join("mark %s\n" % each for each in names)
 
@@ -52,7 +77,12 @@ def many_names(count):
     return names[:count]
 
 
-# From here on: what book answers, told another way than the program does it.
+def chain(names, height):
+    """Each name stands by this height over the one before it."""
+    return marks(*names) + "".join("over %s %s %s\n" % (one, other, height) for one, other in zip(names, names[1:]))
+
+
+# From here on: what is answered, told another way than the program does it; for short texts alone.
 
 WHOLE = re.compile(r"(?:(?:mark N|over N N -?[0-9]{1,4}(?:\.[0-9]{1,4})?)\n)*".replace("N", "[A-Za-z][A-Za-z0-9]{0,15}"))
 ENDINGS = [line[at:] for line in ("mark A\n", "over A A 0.0\n") for at in range(len(line) + 1)]
@@ -97,7 +127,7 @@ def all_ways(lines, start, goal, gone=()):
 
 
 def slow_book(text):
-    """What book answers to the text; for short texts alone."""
+    """What book answers to the text."""
     place = grammar_fault(text)
     if place is not None:
         return [-6, 1, place]
@@ -126,3 +156,38 @@ def slow_book(text):
             return [-6, 6, words[3][0], len(ring)] + [number for number, rise in ring] + [sum(rise for number, rise in ring)]
         lines.append((first, second, height))
     return [0]
+
+
+class SlowBook:
+    """A right text; it's asked by names."""
+
+    def __init__(self, text):
+        lines = [[word for place, word in words] for words in lines_with_places(text)]
+        self.names = [words[1] for words in lines if words[0] == "mark"]
+        self.lines = [(words[1], words[2], tenths(words[3])) for words in lines if words[0] == "over"]
+        self.joined = [number for number, line in enumerate(self.lines)
+                       if not all_ways(self.lines[:number], line[0], line[1])]
+
+    def over(self, lower, upper):
+        """None if they don't hang together."""
+        heights = {sum(rise for number, rise in way) for way in all_ways(self.lines, lower, upper)}
+        assert len(heights) < 2
+        return heights.pop() if heights else None
+
+    def way(self, start, goal):
+        """None if there's none."""
+        ways = [[number for number, rise in way] for way in all_ways(self.lines, start, goal)]
+        ways = [way for way in ways if all(number in self.joined for number in way)]
+        assert len(ways) < 2
+        return ways[0] if ways else None
+
+    def group(self, name):
+        return [other for other in self.names if self.over(name, other) is not None]
+
+    def ends(self, name):
+        """How many hang together with it; the lowest's number; the highest's."""
+        group = self.group(name)
+        heights = [self.over(name, other) for other in group]
+        lowest = group[heights.index(min(heights))]
+        highest = group[heights.index(max(heights))]
+        return [len(group), self.names.index(lowest), self.names.index(highest)]

@@ -1,29 +1,50 @@
-"""The calls on one object: printed, size, name, and what is kept between them."""
+"""The calls on one object: how they're handed in, printed, size, name, and what is kept between calls."""
 
+import random
 import unittest
 
-from helper import PRINTED, SIZE, ask, book, many_names, marks, name, printed
-from markheights.datums import NotBuilt, answers
+from helper import PRINTED, SIZE, ask, book, chain, ends, find, many_names, marks, name, over, printed, way
+from markheights.datums import answers
 
 SMALL = marks("A", "Bolt7") + "over A Bolt7 02.50\n"
-LATER_CALLS = ([4, 1, 65], [4, 0], [5, 0, 0], [6, 0, 1], [7, 0])
+OTHER = marks("Q", "A", "B", "C") + "over A Q 3\nover B C 1\nover Q A -3\n"
+GREATEST = 4294967295
+# each call but book, with what is there in SMALL and what is not
+ASKED = [PRINTED, SIZE, name(0), name(1), name(2), find("A"), find("Bolt7"), find("Q"), find("")]
+ASKED += [call(one, other) for call in (over, way) for one in range(3) for other in range(3)]
+ASKED += [ends(0), ends(1), ends(2), over(GREATEST, 0), way(0, GREATEST), ends(GREATEST), name(GREATEST)]
+BAD = (
+    "mark A",
+    marks("X", "X"),
+    marks("X") + "over X Y 1\n",
+    marks("X", "Y") + "over X Y 1\nover Y Z 1\n",
+    marks(*many_names(1025)),
+    marks("X", "Y", "Z") + "over X X 1\n",
+    marks("X", "Y", "Z") + "over X Y 1\nover Y X 1\n",
+    SMALL + marks("Q") + "over Bolt7 Q 1\nover A Q 1\n",
+)
 
 
 class WithoutABook(unittest.TestCase):
     def test_all_but_book_answer_minus_3(self):
-        for call in (PRINTED, SIZE, name(0), name(4294967295)) + LATER_CALLS:
+        for call in ASKED:
             self.assertEqual(ask(call), [[-3]], call)
+        self.assertEqual(ask(*ASKED), [[-3]] * len(ASKED))
 
     def test_calls_are_taken_apart_to_their_ends(self):
-        row = [4, 3, 0, 0, 0]
-        calls = list(LATER_CALLS) + [row, book("mark A\n"), SIZE]
-        self.assertEqual(ask(*calls), [[-3]] * 6 + [[0], [0, 1, 0, 1]])
+        calls = ASKED + [find([0, 0, 0]), find([5] * 1000), book("mark A\n"), find([0, 0, 0]), find([5] * 1000), SIZE]
+        expected = [[-3]] * (len(ASKED) + 2) + [[0], [-4], [-4], [0, 1, 0, 1]]
+        self.assertEqual(ask(*calls), expected)
 
     def test_a_refused_book_is_none(self):
-        self.assertEqual(ask(book("x"), PRINTED, SIZE, name(0)), [[-6, 1, 0], [-3], [-3], [-3]])
+        for text in BAD:
+            found = ask(book(text), *ASKED)
+            self.assertEqual(found[0][0], -6)
+            self.assertEqual(found[1:], [[-3]] * len(ASKED))
 
     def test_an_empty_book_is_one(self):
-        self.assertEqual(ask(book(""), PRINTED, SIZE, name(0)), [[0], [0, 0], [0, 0, 0, 0], [-4]])
+        found = ask(book(""), *ASKED)
+        self.assertEqual(found, [[0], [0, 0], [0, 0, 0, 0]] + [[-4]] * (len(ASKED) - 2))
 
 
 class Answers(unittest.TestCase):
@@ -35,17 +56,56 @@ class Answers(unittest.TestCase):
         expected += [2 + len(shown), 0, len(shown)] + shown + [3, -6, 1, 0]
         self.assertEqual(told, expected)
 
+    def test_find_over_way_and_ends_in_the_one_list(self):
+        text = list((SMALL + marks("C")).encode())
+        asked = [4, 1, 67, 4, 0, 5, 1, 0, 5, 0, 2, 5, 0, 3, 6, 0, 1, 6, 2, 2, 6, 2, 0, 6, 3, 3, 7, 1, 7, 3]
+        told = answers([7, 0, 6, 0, 0, 5, 0, 0, 4, 1, 65, 0, len(text)] + text + asked)
+        expected = [1, -3] * 4 + [1, 0] + [2, 0, 2, 1, -4] + [2, 1, -25000, 1, 0, 1, -4]
+        expected += [3, 1, 1, 0, 2, 1, 0, 1, 0, 1, -4] + [4, 0, 2, 0, 1, 1, -4]
+        self.assertEqual(told, expected)
+
     def test_whole_numbers_in_a_list(self):
         ring = SMALL + "over Bolt7 A 2.5\n"
-        calls = book(SMALL) + PRINTED + SIZE + name(0) + name(2) + book(ring) + book("?")
-        told = answers(calls)
+        calls = [book(SMALL)] + ASKED + [book(ring), book("?")]
+        told = answers([number for call in calls for number in call])
         self.assertIs(type(told), list)
         self.assertTrue(all(type(number) is int for number in told))
 
-    def test_later_calls_are_not_answered_wrongly(self):
-        for call in LATER_CALLS:
-            with self.assertRaises(NotBuilt):
-                ask(book(SMALL), call)
+
+def some_call(chance):
+    mark = chance.choice((0, 1, 2, 3, 4, GREATEST))
+    other = chance.choice((0, 1, 2, 3, 4, GREATEST))
+    row = [chance.randrange(256) for turn in range(chance.randrange(20))]
+    known = find(chance.choice(("A", "Bolt7", "Q", "")))
+    right = book(chance.choice((SMALL, OTHER, "")))
+    wrong = book(chance.choice(BAD))
+    asked = [PRINTED, SIZE, name(mark), find(row), known, over(mark, other), way(mark, other), ends(mark)]
+    return chance.choice(asked * 2 + [right, wrong, [0, len(row)] + row])
+
+
+class EveryCall(unittest.TestCase):
+    def test_calls_in_any_order_are_answered(self):
+        chance = random.Random(23)
+        for case in range(300):
+            calls = [some_call(chance) for turn in range(chance.randrange(1, 40))]
+            found = ask(*calls)
+            has_book = False
+            for call, answer in zip(calls, found):
+                refusals = [-6] if call[0] == 0 else [-4] if has_book else [-3]
+                self.assertIn(answer[0], ([0, 1] if has_book or call[0] == 0 else []) + refusals)
+                has_book = has_book or call[0] == 0 and answer == [0]
+
+    def test_each_call_alone(self):
+        for call in ASKED:
+            self.assertEqual(ask(call, call), [[-3], [-3]])
+        self.assertEqual(ask(book("")), [[0]])
+
+    def test_the_longest_texts_that_are_at_fault(self):
+        for byte in (0, 10, 65, 109, 255):
+            place = 1 if byte == 109 else 0
+            self.assertEqual(answers([0, 29990] + [byte] * 29990), [3, -6, 1, place])
+        text = list(b"mark A\n") + [97] * 29983
+        self.assertEqual(answers([0, 29990] + text), [3, -6, 1, 7])
 
 
 class Sizes(unittest.TestCase):
@@ -128,37 +188,39 @@ class Printed(unittest.TestCase):
 
 class OneBookAfterAnother(unittest.TestCase):
     def test_a_refused_book_leaves_the_one_before(self):
-        bad = (
-            "mark A",
-            marks("X", "X"),
-            marks("X") + "over X Y 1\n",
-            marks("X", "Y") + "over X Y 1\nover Y Z 1\n",
-            marks(*many_names(1025)),
-            marks("X", "Y", "Z") + "over X X 1\n",
-            marks("X", "Y", "Z") + "over X Y 1\nover Y X 1\n",
-        )
-        before = ask(book(SMALL), PRINTED, SIZE, name(0), name(1), name(2))
-        for text in bad:
-            after = ask(book(SMALL), book(text), PRINTED, SIZE, name(0), name(1), name(2))
-            self.assertEqual(after[1][0], -6)
-            self.assertEqual(after[2:], before[1:])
+        before = ask(book(SMALL), *ASKED)[1:]
+        for text in BAD:
+            found = ask(book(SMALL), *(ASKED + [book(text)] + ASKED))
+            self.assertEqual(found[1 + len(ASKED)][0], -6)
+            self.assertEqual(found[1:1 + len(ASKED)], before)
+            self.assertEqual(found[2 + len(ASKED):], before)
 
     def test_a_right_book_takes_its_place(self):
-        found = ask(book(SMALL), book(marks("Q")), SIZE, name(0), name(1), PRINTED)
-        self.assertEqual(found[2:], [[0, 1, 0, 1], [0, 1, 81], [-4], [0, 7] + list(b"mark Q\n")])
+        for first, second in ((SMALL, OTHER), (OTHER, SMALL), (SMALL, ""), ("", OTHER), (OTHER, marks("Q"))):
+            found = ask(book(first), *(ASKED + [book(second)] + ASKED))
+            self.assertEqual(found[:1 + len(ASKED)], ask(book(first), *ASKED))
+            self.assertEqual(found[1 + len(ASKED):], ask(book(second), *ASKED))
+            self.assertNotEqual(found[:1 + len(ASKED)], found[1 + len(ASKED):])
+
+    def test_what_a_second_book_tells(self):
+        asked = [SIZE, name(0), name(1), PRINTED, find("A"), find("Q"), over(0, 0), over(0, 1), way(0, 0), ends(0)]
+        found = ask(book(SMALL), book(marks("Q")), *asked)
+        expected = [[0, 1, 0, 1], [0, 1, 81], [-4], [0, 7] + list(b"mark Q\n")]
+        self.assertEqual(found[2:], expected + [[-4], [0, 0], [1, 0], [-4], [1, 0], [0, 1, 0, 0]])
 
     def test_names_of_the_book_before_are_not_told(self):
         self.assertEqual(ask(book(SMALL), book(SMALL)), [[0], [0]])
         self.assertEqual(ask(book(SMALL), book("over A Bolt7 1\n"))[1], [-6, 3, 5])
 
     def test_asking_changes_nothing(self):
-        asked = [PRINTED, SIZE, name(0), name(9)]
-        found = ask(book(SMALL), *(asked + asked))
-        self.assertEqual(found[1:5], found[5:])
+        for text in (SMALL, OTHER):
+            found = ask(book(text), *(ASKED + ASKED[::-1] + ASKED))[1:]
+            self.assertEqual(found[:len(ASKED)], found[-len(ASKED):])
+            self.assertEqual(found[:len(ASKED)], found[len(ASKED):-len(ASKED)][::-1])
 
 
 class HandedIn(unittest.TestCase):
-    CALLS = book(SMALL) + book(SMALL + "over A Bolt7 1\n") + PRINTED + SIZE + name(1) + book("?")
+    CALLS = sum([book(SMALL), book(SMALL + "over A Bolt7 1\n")] + ASKED + [book("?"), book(OTHER)] + ASKED, [])
 
     def test_the_list_is_as_it_was(self):
         calls = list(self.CALLS)
@@ -180,9 +242,16 @@ class HandedIn(unittest.TestCase):
         first.clear()
         self.assertNotEqual(answers(self.CALLS), [])
 
+    def test_two_cases_do_not_touch_each_other(self):
+        one, other = (sum([book(text)] + ASKED, []) for text in (SMALL, OTHER))
+        told = answers(one), answers(other)
+        for turn in range(2):
+            self.assertEqual(answers(sum(ASKED, [])), [1, -3] * len(ASKED))
+            self.assertEqual((answers(one), answers(other)), told)
+        self.assertNotEqual(told[0], told[1])
+
     def test_400_calls_on_a_long_book(self):
-        names = many_names(1024)
-        text = marks(*names) + "".join("over %s %s 1\n" % pair for pair in zip(names, names[1:]))
+        text = chain(many_names(1024), "1")
         found = ask(book(text), *([PRINTED] * 399))
         self.assertEqual(found[399], [0, len(text)] + list(text.encode()))
 
